@@ -1,0 +1,1 @@
+"""A season's meshes: which net is best taken out on which day."""
