@@ -1,16 +1,24 @@
 """The calls on one season, and what they answer."""
 
+from seasonmeshes.plans import best_answer, check_answer, choices_of_day, plain_answer
+
 BEGINS = 0
 KIND = 1
 NET = 2
+DAY = 3
+SHOAL = 4
+BEST = 5
+PLAIN = 6
+CHECK = 7
 
-# By a call's number: how many numbers stand behind it.
-HOW_MANY = (1, 3, 1, 0)
+# By a call's number: how many numbers stand behind it; check tells its own.
+HOW_MANY = (1, 3, 1, 0, 3, 0, 0)
 
 LARGEST = 1000
 MOST_KINDS = 3
 MOST_NETS = 4
 MOST_DAYS = 5
+MOST_SHOALS = 6
 
 
 class Season:
@@ -54,6 +62,38 @@ class Season:
         self.days.append([])
         return [len(self.days) - 1]
 
+    def shoal(self, kind, size, many):
+        if not self.days:
+            return [-2]
+        if kind >= len(self.kinds) or min(size, many) < 1 or max(size, many) > LARGEST:
+            return [-1]
+        shoals = self.days[-1]
+        if len(shoals) == MOST_SHOALS:
+            return [-5]
+        shoals.append((kind, size, many))
+        return [len(shoals) - 1]
+
+    def best(self):
+        return best_answer(self.choices(), self.limits(), self.worths())
+
+    def plain(self):
+        return plain_answer(self.choices(), self.limits(), self.worths())
+
+    def check(self, plan):
+        if len(plan) != len(self.days) or max(plan, default=0) > len(self.nets):
+            return [-1]
+        return check_answer(plan, self.choices(), self.limits(), self.worths())
+
+    def choices(self):
+        leasts = [least for worth, least, quota in self.kinds]
+        return [choices_of_day(shoals, leasts, self.nets) for shoals in self.days]
+
+    def limits(self):
+        return [self.too_small] + [quota for worth, least, quota in self.kinds]
+
+    def worths(self):
+        return [0] + [worth for worth, least, quota in self.kinds]
+
 
 def answer_call(season, number, given):
     if number == BEGINS:
@@ -62,7 +102,21 @@ def answer_call(season, number, given):
         return season.kind(given[0], given[1], given[2])
     if number == NET:
         return season.net(given[0])
-    return season.day()
+    if number == DAY:
+        return season.day()
+    if number == SHOAL:
+        return season.shoal(given[0], given[1], given[2])
+    if number == BEST:
+        return season.best()
+    if number == PLAIN:
+        return season.plain()
+    return season.check(given[1:])
+
+
+def end_of_call(calls, at):
+    if calls[at] == CHECK:
+        return at + 2 + calls[at + 1]
+    return at + 1 + HOW_MANY[calls[at]]
 
 
 def answers(calls):
@@ -70,10 +124,9 @@ def answers(calls):
     answered = []
     at = 0
     while at < len(calls):
-        number = calls[at]
-        behind = at + 1 + HOW_MANY[number]
-        answer = answer_call(season, number, calls[at + 1:behind])
+        end = end_of_call(calls, at)
+        answer = answer_call(season, calls[at], calls[at + 1:end])
         answered.append(len(answer))
         answered.extend(answer)
-        at = behind
+        at = end
     return answered

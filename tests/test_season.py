@@ -1,43 +1,12 @@
-import contextlib
-import io
-import sys
 import unittest
 
+from helper import LARGEST_NUMBER, SeasonCase, begins, day, joined, kind, net
 from seasonmeshes.season import Season, answers
 
-LARGEST_NUMBER = 4294967295
 TAKEN = (0, 1, 999, 1000)
 REFUSED = (1001, 1002, LARGEST_NUMBER)
-
-
-def begins(too_small):
-    return [0, too_small]
-
-
-def kind(worth=5, least=20, quota=30):
-    return [1, worth, least, quota]
-
-
-def net(mesh=10):
-    return [2, mesh]
-
-
-def day():
-    return [3]
-
-
-def joined(calls):
-    return [number for call in calls for number in call]
-
-
 FULL = [kind()] * 3 + [net()] * 4 + [day()] * 5
 FULL_ANSWERS = [0, 1, 2, 0, 1, 2, 3, 0, 1, 2, 3, 4]
-
-
-class SeasonCase(unittest.TestCase):
-    def check(self, calls, wanted):
-        """Each of the calls is answered by the one wanted number, with the count 1 ahead of it."""
-        self.assertEqual(answers(joined(calls)), joined([[1, number] for number in wanted]))
 
 
 class OrdinaryCalls(SeasonCase):
@@ -203,49 +172,6 @@ class AnyCallFirst(SeasonCase):
 
     def test_a_refusal_first(self):
         self.check([begins(1001), kind(), net(), day()], [-1, 0, 0, 0])
-
-
-class UnchangingList(list):
-    """A list that fails at every change, one that is taken back included."""
-
-    def refuse(self, *numbers, **named):
-        raise AssertionError("the list that was handed in was changed")
-
-    append = clear = extend = insert = pop = remove = reverse = sort = refuse
-    __setitem__ = __delitem__ = __iadd__ = __imul__ = refuse
-
-
-class WhatIsHandedIn(unittest.TestCase):
-    calls = joined([kind(), begins(6), kind(worth=1001)] + FULL + [kind(), begins(1001), net(), day()])
-
-    def test_is_the_same_afterwards(self):
-        handed_in = list(self.calls)
-        answers(handed_in)
-        self.assertEqual(handed_in, self.calls)
-
-    def test_is_not_changed_for_a_while_either(self):
-        self.assertEqual(answers(UnchangingList(self.calls)), answers(self.calls))
-
-    def test_asked_twice_answers_the_same_twice(self):
-        first = answers(self.calls)
-        kept = list(first)
-        second = answers(self.calls)
-        self.assertEqual(first, second)
-        first.clear()
-        self.assertEqual(second, kept)
-        self.assertEqual(answers(self.calls), kept)
-
-    def test_nothing_is_kept_from_another_list(self):
-        answers(joined(FULL))
-        self.assertEqual(answers(joined([kind(), net(), day()])), [1, 0, 1, 0, 1, 0])
-
-    def test_prints_and_imports_nothing(self):
-        modules = sorted(sys.modules)
-        printed = io.StringIO()
-        with contextlib.redirect_stdout(printed), contextlib.redirect_stderr(printed):
-            answers(self.calls)
-        self.assertEqual(printed.getvalue(), "")
-        self.assertEqual(sorted(sys.modules), modules)
 
 
 if __name__ == "__main__":
